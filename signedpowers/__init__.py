@@ -1,0 +1,1 @@
+"""Competence: who could decide what, on which day."""

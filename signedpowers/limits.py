@@ -1,0 +1,17 @@
+"""The bounds that the document sets, and the numbers of its refusals."""
+
+MOST_PERSONS = 8
+MOST_OFFICES = 8
+MOST_ROWS = 20
+GREATEST_KIND = 9
+GREATEST_AMOUNT = 1000000000
+LAST_DAY = 99999
+FEWEST_SIGNERS = 1
+MOST_SIGNERS = 8
+
+WITHOUT_END = 0
+
+WRONG = -1
+UNKNOWN = -2
+TAKEN = -3
+FULL = -5
