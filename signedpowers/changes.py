@@ -1,7 +1,8 @@
 """The calls that change a house. Each tests its refusals in the order in which the document tells them."""
 
-from signedpowers.limits import FEWEST_SIGNERS, FULL, GREATEST_AMOUNT, GREATEST_KIND, LAST_DAY
-from signedpowers.limits import MOST_OFFICES, MOST_PERSONS, MOST_ROWS, MOST_SIGNERS, TAKEN, UNKNOWN, WRONG
+from signedpowers.limits import FEWEST_SIGNERS, FULL, LAST_DAY, MOST_OFFICES, MOST_PERSONS, MOST_ROWS, MOST_SIGNERS
+from signedpowers.limits import TAKEN, UNKNOWN, WRONG
+from signedpowers.refusals import no_office, no_person, one_is_no_person, wrong_matter
 from signedpowers.spans import share_a_day, wrong_span
 
 
@@ -13,7 +14,7 @@ def begin_house(house, many):
 
 
 def add_office(house, deputies):
-    if any([no_person(house, deputy) for deputy in deputies]):
+    if one_is_no_person(house, deputies):
         return [UNKNOWN]
     if len(set(deputies)) < len(deputies):
         return [WRONG]
@@ -89,18 +90,6 @@ def end_delegation(house, number, day):
         return [WRONG]
     delegation.end = day
     return [0]
-
-
-def no_person(house, person):
-    return person >= house.persons
-
-
-def no_office(house, office):
-    return office >= len(house.offices)
-
-
-def wrong_matter(row):
-    return row.kind > GREATEST_KIND or row.amount > GREATEST_AMOUNT
 
 
 def held_meanwhile(house, term):

@@ -53,6 +53,15 @@ class SignRule:
         self.many = many
 
 
+class Matter:
+    """What is to be decided, on a day."""
+
+    def __init__(self, kind, amount, day):
+        self.kind = kind
+        self.amount = amount
+        self.day = day
+
+
 class House:
     """All that has been told; a row's place in its list is its number."""
 

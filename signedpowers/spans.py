@@ -14,5 +14,9 @@ def ends_by(row, day):
     return row.end != WITHOUT_END and row.end <= day
 
 
+def in_force(row, day):
+    return row.first <= day and not ends_by(row, day)
+
+
 def share_a_day(row, other):
     return not ends_by(row, other.first) and not ends_by(other, row.first)

@@ -41,6 +41,34 @@ def ends(delegation, day):
     return [7, delegation, day]
 
 
+def acts(office_number, day):
+    return [8, office_number, day]
+
+
+def may(person, kind, amount, day):
+    return [9, person, kind, amount, day]
+
+
+def who(kind, amount, day):
+    return [10, kind, amount, day]
+
+
+def valid(kind, amount, day, *persons):
+    return [11, kind, amount, day, len(persons), *persons]
+
+
+def most(person, kind, day):
+    return [12, person, kind, day]
+
+
+def turns(person, kind, amount, day):
+    return [13, person, kind, amount, day]
+
+
+def stops(kind, amount, day):
+    return [14, kind, amount, day]
+
+
 def one_list(calls):
     return [number for call in calls for number in call]
 
@@ -80,13 +108,17 @@ def house_after(*calls):
 
 
 class CallTest(unittest.TestCase):
+    def assert_answer(self, before, call, *answer):
+        self.assertEqual(told_last(*before, call), list(answer), call)
+
     def assert_refused(self, before, call, refusal):
         """It answers the refusal's number alone, and the house is as it was."""
-        self.assertEqual(told_last(*before, call), [refusal], call)
+        self.assert_asked(before, call, refusal)
+
+    def assert_asked(self, before, call, *answer):
+        """It answers this, and the house is as it was."""
+        self.assert_answer(before, call, *answer)
         house = house_after(*before)
         earlier = kept(house)
         answer_call(house, read_calls(call)[0])
         self.assertEqual(kept(house), earlier, call)
-
-    def assert_answer(self, before, call, answer):
-        self.assertEqual(told_last(*before, call), [answer], call)
